@@ -1,0 +1,1 @@
+"""A store that lets go of what nobody comes to."""
