@@ -59,6 +59,10 @@ def is_young(held):
     return is_cell(held) and held.young
 
 
+def is_white(held):
+    return is_cell(held) and held.colour == WHITE
+
+
 def count_young(store):
     return len([cell for cell in store.cells if cell.young])
 
@@ -70,11 +74,21 @@ def add_cell(store, kind, fields):
     return cell
 
 
+def empty_cell(cell):
+    """What a weak or a keyed cell becomes when its target or its key goes."""
+    cell.fields = [None] * len(cell.fields)
+
+
+def tell_last_word(store, cell):
+    if cell.word is not None:
+        store.told.append(cell.word)
+
+
 def write_field(store, cell, i, held):
     cell.fields[i] = held
     if not is_cell(held):
         return
     if held.young and not cell.young:
         cell.remembered = True
-    if store.phase == MARKS and cell.colour == BLACK and held.colour == WHITE:
+    if store.phase == MARKS and cell.colour == BLACK and is_white(held):
         held.colour = GREY

@@ -1,6 +1,7 @@
 """A round of the young: which young cells are kept, and what becomes of all the others."""
 
-from letgostore.cells import BLACK, GREY, KEYED, MARKS, PLAIN, RESTS, WHITE, is_young
+from letgostore.cells import BLACK, GREY, KEYED, MARKS, PLAIN, RESTS, WHITE
+from letgostore.cells import empty_cell, is_young, tell_last_word
 
 
 def stays(kept, held):
@@ -45,16 +46,10 @@ def find_kept(store):
     return kept
 
 
-def tell_last_words(store, gone):
-    for cell in gone:
-        if cell.word is not None:
-            store.told.append(cell.word)
-
-
 def empty_if_gone(kept, cell):
     """A weak cell loses a target that is let go; a keyed one whose key is loses its value too."""
     if cell.kind != PLAIN and not stays(kept, cell.fields[0]):
-        cell.fields = [None] * len(cell.fields)
+        empty_cell(cell)
 
 
 def colour_when_old(store, cell):
@@ -81,7 +76,8 @@ def is_to_be_remembered(cell):
 
 def round_of_the_young(store):
     kept = find_kept(store)
-    tell_last_words(store, [cell for cell in store.cells if not stays(kept, cell)])
+    for gone in [cell for cell in store.cells if not stays(kept, cell)]:
+        tell_last_word(store, gone)
     store.cells = [cell for cell in store.cells if stays(kept, cell)]
     for cell in store.cells:
         empty_if_gone(kept, cell)

@@ -42,6 +42,42 @@ def keyed(v, k, x):
     return [9, v, k, x]
 
 
+def found(v, u, k):
+    return [10, v, u, k]
+
+
+def last_word(u, z):
+    return [11, u, z]
+
+
+def words():
+    return [12]
+
+
+def young():
+    return [13]
+
+
+def slice_of(n):
+    return [14, n]
+
+
+def counts():
+    return [15]
+
+
+def shape(u):
+    return [16, u]
+
+
+def same(u, v):
+    return [17, u, v]
+
+
+# Behind these, what is kept is old.
+GROWN = [young(), young()]
+
+
 def joined(calls):
     return [number for call in calls for number in call]
 

@@ -29,11 +29,22 @@ def files():
     return sorted(PACKAGE.glob("*.py"))
 
 
-def nodes(*kinds):
+TREES = {}
+
+
+def trees():
+    """Each file's tree, taken apart once."""
     for path in files():
-        for node in ast.walk(ast.parse(path.read_text(encoding="utf-8"))):
+        if path.name not in TREES:
+            TREES[path.name] = ast.parse(path.read_text(encoding="utf-8"))
+    return TREES
+
+
+def nodes(*kinds):
+    for name, tree in trees().items():
+        for node in ast.walk(tree):
             if isinstance(node, kinds):
-                yield path.name, node
+                yield name, node
 
 
 def names_bound(tree):
@@ -108,6 +119,39 @@ class Forms(unittest.TestCase):
             if any(isinstance(op, (ast.Is, ast.IsNot)) for op in node.ops):
                 self.assertIsInstance(node.comparators[0], ast.Constant, (name, node.lineno))
 
+    def test_no_annotations(self):
+        for name, node in nodes(ast.FunctionDef):
+            self.assertEqual([node.returns] + [arg.annotation for arg in node.args.args],
+                             [None] * (1 + len(node.args.args)), (name, node.name))
+
+    def test_what_is_walked_on_the_spot(self):
+        for name, node in nodes(ast.Call):
+            if isinstance(node.func, ast.Name) and node.func.id in ("zip", "enumerate", "reversed", "range"):
+                self.assertIn(id(node), self.walked(), (name, node.lineno))
+            self.assertEqual(node.keywords, [], (name, node.lineno))
+
+    def walked(self):
+        return {id(node.iter) for tree in trees().values() for node in ast.walk(tree)
+                if isinstance(node, (ast.For, ast.comprehension))}
+
+    def test_what_a_loop_walks_is_not_changed_in_it(self):
+        for name, node in nodes(ast.For):
+            walked = ast.dump(node.iter)
+            for inner in ast.walk(node):
+                if isinstance(inner, ast.Call) and isinstance(inner.func, ast.Attribute):
+                    self.assertNotEqual(ast.dump(inner.func.value), walked, (name, node.lineno))
+                if isinstance(inner, (ast.Assign, ast.AugAssign)):
+                    targets = inner.targets if isinstance(inner, ast.Assign) else [inner.target]
+                    self.assertNotIn(walked.replace("Load", "Store"), [ast.dump(t) for t in targets],
+                                     (name, node.lineno))
+
+    def test_texts_and_sets(self):
+        for name, node in nodes(ast.Constant):
+            if isinstance(node.value, str):
+                self.assertNotIn("%", node.value, (name, node.lineno))
+        for name, node in nodes(ast.Call):
+            self.assertNotIn(getattr(node.func, "id", ""), ("set", "frozenset"), (name, node.lineno))
+
     def test_imports_are_the_packages_own(self):
         drawn = {}
         for name, node in nodes(ast.ImportFrom):
@@ -141,6 +185,33 @@ class Names(unittest.TestCase):
         for name, node in nodes(ast.Call):
             if isinstance(node.func, ast.Attribute):
                 self.assertIn(node.func.attr, set(METHODS) | own, (name, node.lineno))
+
+    def test_no_local_is_called_like_a_class_or_an_import_of_its_file(self):
+        for path_name, tree in trees().items():
+            tops = {alias.name for node in tree.body if isinstance(node, ast.ImportFrom) for alias in node.names}
+            tops |= {node.name for node in tree.body if isinstance(node, ast.ClassDef)}
+            for node in ast.walk(tree):
+                if isinstance(node, ast.FunctionDef):
+                    self.assertEqual({name for name in names_bound(node) if name != node.name} & tops, set(), path_name)
+
+    def test_what_stands_at_a_files_top_is_only_read(self):
+        for path_name, tree in trees().items():
+            kept = {node.targets[0].id for node in tree.body if isinstance(node, ast.Assign)
+                    and isinstance(node.value, (ast.List, ast.Dict))}
+            read = [node.value for node in ast.walk(tree) if isinstance(node, ast.Subscript)
+                    and isinstance(node.ctx, ast.Load)]
+            for node in ast.walk(tree):
+                if isinstance(node, ast.Name) and node.id in kept and isinstance(node.ctx, ast.Load):
+                    self.assertIn(node, read, (path_name, node.lineno))
+
+    def test_values_of_objects_are_called_like_nothing_of_pythons_own(self):
+        taken = {name for kind in (str, int, list, dict, set, bytes) for name in dir(kind)}
+        methods = {inner.name for name, node in nodes(ast.ClassDef) for inner in node.body
+                   if isinstance(inner, ast.FunctionDef)}
+        for name, node in nodes(ast.Attribute):
+            if isinstance(node.ctx, ast.Store):
+                self.assertNotIn(node.attr, taken | methods, (name, node.lineno))
+                self.assertIsInstance(node.value, ast.Name, (name, node.lineno))
 
     def test_a_name_is_bound_once_at_a_files_top(self):
         for path in files():

@@ -1,4 +1,4 @@
-"""What no call of this stage shows: colours, the round of the old, remembered cells, last words.
+"""Colours, the round of the old, remembered cells and last words, looked at from within.
 
 The state is set up by hand here, also such as no list of calls comes to.
 """
@@ -7,6 +7,7 @@ import unittest
 
 from letgostore.cells import BLACK, GREY, KEYED, MARKS, PLAIN, RESTS, SWEEPS, WEAK, WHITE
 from letgostore.cells import Store, add_cell, write_field
+from letgostore.old import work_slice
 from letgostore.store import call_cell, call_held, call_set
 from letgostore.young import round_of_the_young
 
@@ -214,6 +215,75 @@ class OldCellsOfOtherKinds(unittest.TestCase):
         keyed = make_old(store, kind=KEYED, fields=[None, None])
         round_of_the_young(store)
         self.assertEqual((weak.fields, keyed.fields), ([None], [None, None]))
+
+
+class WhenItBeginsToMark(unittest.TestCase):
+    def test_values_of_young_keyed_cells_with_young_keys_are_looked_at(self):
+        store = Store()
+        first, second, third, fourth = [make_old(store) for place in range(4)]
+        young_key = make_young(store)
+        make_young(store, KEYED, [young_key, first])
+        make_young(store, KEYED, [fourth, second])
+        make_old(store, kind=KEYED, fields=[young_key, third])
+        self.assertEqual(work_slice(store, 1), 1)
+        self.assertEqual([cell.colour for cell in (first, second, third, fourth)], [BLACK, WHITE, WHITE, WHITE])
+
+
+class WhenTheSweepBegins(unittest.TestCase):
+    def swept_once(self, store):
+        """It marks and none is grey: the sweep begins, and comes to one cell, the first old one."""
+        store.phase = MARKS
+        self.assertEqual(work_slice(store, 1), 1)
+        self.assertEqual(store.phase, SWEEPS)
+
+    def test_young_and_black_ones_with_a_white_target_or_key_are_emptied(self):
+        store = Store()
+        first = make_old(store, BLACK)
+        gone = make_old(store, WHITE)
+        weak = make_old(store, BLACK, WEAK, [gone])
+        keyed = make_old(store, BLACK, KEYED, [gone, first])
+        young_weak = make_young(store, WEAK, [gone])
+        young_keyed = make_young(store, KEYED, [gone, 5])
+        self.swept_once(store)
+        self.assertEqual([cell.fields for cell in (weak, keyed, young_weak, young_keyed)],
+                         [[None], [None, None], [None], [None, None]])
+        self.assertEqual((first.colour, gone.colour, store.cells[1]), (WHITE, WHITE, gone))
+
+    def test_white_ones_are_left_as_they_are(self):
+        store = Store()
+        make_old(store, BLACK)
+        gone = make_old(store, WHITE)
+        weak = make_old(store, WHITE, WEAK, [gone])
+        keyed = make_old(store, WHITE, KEYED, [gone, gone])
+        self.swept_once(store)
+        self.assertEqual((weak.fields, keyed.fields), ([gone], [gone, gone]))
+
+    def test_other_targets_and_keys_stay(self):
+        store = Store()
+        first = make_old(store, BLACK)
+        young = make_young(store)
+        weak = make_old(store, BLACK, WEAK, [first])
+        keyed = make_old(store, BLACK, KEYED, [young, 5])
+        emptied = make_old(store, BLACK, KEYED, [None, None])
+        self.swept_once(store)
+        self.assertEqual((weak.fields, keyed.fields, emptied.fields), ([first], [young, 5], [None, None]))
+
+    def test_the_value_of_an_old_keyed_cell_with_a_young_key_is_looked_at(self):
+        store = Store()
+        store.phase = MARKS
+        value = make_old(store, WHITE)
+        keyed = make_old(store, BLACK, KEYED, [make_young(store), value])
+        self.assertEqual(work_slice(store, 1), 1)
+        self.assertEqual((store.phase, value.colour, keyed.fields[1]), (MARKS, BLACK, value))
+
+    def test_each_sweep_begins_at_the_first_old_cell(self):
+        store = Store()
+        for v in range(3):
+            store.variables[v] = make_old(store)
+        for time in range(3):
+            self.assertEqual((work_slice(store, 1000), store.phase), (6, RESTS))
+        store.variables = [None] * 16
+        self.assertEqual((work_slice(store, 1000), store.phase, store.cells), (3, RESTS, []))
 
 
 class LastWords(unittest.TestCase):
